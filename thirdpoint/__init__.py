@@ -1,0 +1,1 @@
+"""Thirdpoint: asks drawn as points, and searching trees that are turned."""
