@@ -1,5 +1,6 @@
 """What several tests draw, the same each time, and things of many kinds."""
 
+import itertools
 import random
 
 NO_KEYS = [None, True, False, -1, 31, 32, -30, 10 ** 59, -10 ** 59, "", "0", "1", b"\x01", 1.0, 0.0,
@@ -141,3 +142,35 @@ def drawn_asks(seed, many):
 
 ORDERLY_ASKS = [list(range(31)), list(range(30, -1, -1)), [7] * 31, [0], [30], [0, 30] * 15 + [0],
                 [(5 * at) % 31 for at in range(31)], [int(f"{at:05b}"[::-1], 2) % 31 for at in range(31)]]
+
+
+def in_the_box(point, one, other):
+    """Whether the point is in the box of one and other."""
+    keys, moments = sorted([one[0], other[0]]), sorted([one[1], other[1]])
+    return keys[0] <= point[0] <= keys[1] and moments[0] <= point[1] <= moments[1]
+
+
+def bare_one(points):
+    """Two of the points that are neither in one row nor in one column and have no third, or None."""
+    for one, other in itertools.combinations(points, 2):
+        if one[0] != other[0] and one[1] != other[1]:
+            if sum(in_the_box(point, one, other) for point in points) == 2:
+                return one, other
+    return None
+
+
+def drawn_sets(seed, many):
+    """Tuples (asks, points): lists of points that are filled and hold the asks, also keys that nobody asked."""
+    source = random.Random(seed)
+    for number in range(many):
+        wide, high = source.choice([(2, 3), (4, 4), (6, 5), (9, 8)])
+        keys = sorted(source.sample(range(31), wide))
+        asks = [source.choice(keys[wide // 3:]) for moment in range(high)]
+        points = {(key, moment) for moment, key in enumerate(asks)}
+        points |= {(source.choice(keys), source.randrange(high)) for time in range(source.randrange(wide + high))}
+        pair = bare_one(sorted(points))
+        while pair is not None:
+            one, other = pair
+            points.add(source.choice([(one[0], other[1]), (other[0], one[1])]))
+            pair = bare_one(sorted(points))
+        yield asks, sorted(points)
