@@ -3,8 +3,14 @@
 import itertools
 import random
 
+from thirdpoint.points import Points
+
 NO_KEYS = [None, True, False, -1, 31, 32, -30, 10 ** 59, -10 ** 59, "", "0", "1", b"\x01", 1.0, 0.0,
            (), (1,), (1, None, None), [], [1], {}, {1: 1}, {1}, object(), int, len]
+
+# What are no asks, with the number that NoAsks has.
+WRONG_ASKS = [(None, None), ((), None), ((1, 2), None), ("12", None), (5, None), (True, None), ({}, None), ([], None),
+              ([0] * 32, None), (Points([(1, 0)]), None)] + [([0, thing, thing], 1) for thing in NO_KEYS]
 
 
 def deep_tuple(many, key=5):
@@ -174,3 +180,25 @@ def drawn_sets(seed, many):
             points.add(source.choice([(one[0], other[1]), (other[0], one[1])]))
             pair = bare_one(sorted(points))
         yield asks, sorted(points)
+
+
+def filled_masks(wide, high):
+    """All filled sets of the keys below wide and the moments below high: bit moment * wide + key is the point's."""
+    cells = [(key, moment) for moment in range(high) for key in range(wide)]
+    bits = {cell: 1 << number for number, cell in enumerate(cells)}
+    boxes = [(sum(bits[cell] for cell in cells if in_the_box(cell, one, other)), bits[one] | bits[other])
+             for one, other in itertools.combinations(cells, 2) if one[0] != other[0] and one[1] != other[1]]
+    return [mask for mask in range(1 << len(cells)) if all(mask & box != both for box, both in boxes)]
+
+
+def fewest_points(masks, wide, asks):
+    """How many points the least of the sets has that holds the asks."""
+    held = sum(1 << moment * wide + key for moment, key in enumerate(asks))
+    return min(mask.bit_count() for mask in masks if mask & held == held)
+
+
+def short_asks(many, wide):
+    """All asks, so many, of all the keys below wide, but those mirrored."""
+    for asks in itertools.product(range(wide), repeat=many):
+        if len(set(asks)) == wide and asks <= tuple(wide - 1 - key for key in asks):
+            yield list(asks)

@@ -5,7 +5,7 @@ import itertools
 import random
 import unittest
 
-from drawing import NO_KEYS, ORDERLY_ASKS, bare_one, drawn_asks, drawn_sets
+from drawing import NO_KEYS, ORDERLY_ASKS, WRONG_ASKS, bare_one, drawn_asks, drawn_sets
 from thirdpoint.errors import NoAsks
 from thirdpoint.fences import are_fences, floor_of
 from thirdpoint.fencing import fences_of
@@ -13,8 +13,6 @@ from thirdpoint.growing import Grower
 from thirdpoint.points import Points
 
 SOME_ASKS = ORDERLY_ASKS + list(drawn_asks(41, 150))
-WRONG_ASKS = [(None, None), ((), None), ((1, 2), None), ("12", None), (5, None), (True, None), ({}, None), ([], None),
-              ([0] * 32, None), (Points([(1, 0)]), None)] + [([0, thing, thing], 1) for thing in NO_KEYS]
 
 
 def all_fences(asks):

@@ -1,7 +1,7 @@
 """Asks, a key for each moment, and the Points that serve them."""
 
 from thirdpoint.boxes import is_filled
-from thirdpoint.errors import NoAsks
+from thirdpoint.errors import NoAsks, NotServed
 from thirdpoint.points import Points, is_key
 
 MOST_ASKS = 31
@@ -28,3 +28,9 @@ def serves(asks, points):
     if not all([points.has(point) for point in asked]):
         return False
     return max(points.all_moments()) < len(asks) and is_filled(points)
+
+
+def look_at_served(asks, points):
+    """None, or NotServed of Points that do not serve the asks."""
+    if not serves(asks, points):
+        raise NotServed("the Points do not serve the asks")

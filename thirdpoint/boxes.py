@@ -11,8 +11,9 @@ def have_box(one, other):
 
 def in_box(point, one, other):
     """Whether the point is in the box of one and other."""
-    return (min(one[0], other[0]) <= point[0] <= max(one[0], other[0])
-            and min(one[1], other[1]) <= point[1] <= max(one[1], other[1]))
+    key, moment = point
+    return ((one[0] <= key <= other[0] or other[0] <= key <= one[0])
+            and (one[1] <= moment <= other[1] or other[1] <= moment <= one[1]))
 
 
 def thirds(points, one, other):
@@ -44,6 +45,15 @@ def later_bare(rows, one):
         low = max(lesser, default=low)
         high = min(greater, default=high)
     return found
+
+
+def bare_with(rows, one):
+    """All bare pairs with one, the earlier point first; the rows are the rising keys of each moment, and hold one."""
+    key, start = one
+    later = later_bare(list(enumerate(rows)), one)
+    # Read backwards, what is earlier comes later.
+    earlier = later_bare([(-moment, rows[moment]) for moment in range(start, -1, -1)], (key, -start))
+    return [((near, -moment), one) for near, moment in earlier] + [(one, other) for other in later]
 
 
 def bare_pairs(points):

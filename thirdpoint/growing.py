@@ -32,6 +32,19 @@ def put_in(rows, asked):
     return lesser[::-1] + [asked] + greater
 
 
+def grown_rows(asks):
+    """The keys that are put in at each moment of the asks."""
+    rows = []
+    for key in asks:
+        rows.append(put_in(rows, key))
+    return rows
+
+
+def points_in(rows):
+    """The Points with the keys of each row at its moment."""
+    return Points([(key, moment) for moment, row in enumerate(rows) for key in row])
+
+
 class Grower:
     """Points grown by a rule that hangs on the asks up to each moment alone."""
 
@@ -70,7 +83,7 @@ class Grower:
 
     def points(self):
         """The Points grown by now."""
-        return Points([(key, moment) for moment, row in enumerate(self.rows) for key in row])
+        return points_in(self.rows)
 
     def run(self):
         """The run that touches just the Points."""

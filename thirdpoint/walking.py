@@ -1,7 +1,6 @@
 """From Points that serve asks to the run that touches just these."""
 
-from thirdpoint.asks import serves
-from thirdpoint.errors import NotServed
+from thirdpoint.asks import look_at_served
 from thirdpoint.trees import tree_by
 
 NEVER = 31
@@ -24,6 +23,5 @@ def top_at(points, moment):
 
 def run_of(asks, points):
     """The run that serves the asks and touches just the Points, which must serve them."""
-    if not serves(asks, points):
-        raise NotServed("the Points do not serve the asks")
+    look_at_served(asks, points)
     return (first_tree(points), [top_at(points, moment) for moment in range(len(asks))])

@@ -1,0 +1,115 @@
+"""Least sets that serve asks, and the trees of cases that show that none is less."""
+
+from thirdpoint.asks import look_at_asks
+from thirdpoint.boxes import bare_with, in_box
+from thirdpoint.cases import open_thirds
+from thirdpoint.errors import TooMany
+from thirdpoint.growing import grown_rows, points_in
+
+SHORT_ASKS = 6
+SHORT_KEYS = 4
+MOST_CASES = 400
+
+
+def size_of(rows):
+    """How many points the rows have, which are the keys of each moment."""
+    return sum([len(row) for row in rows])
+
+
+def with_point(rows, point):
+    """New rows, the rising keys of each moment, to which the point is put."""
+    key, moment = point
+    return rows[:moment] + [sorted(rows[moment] + [key])] + rows[moment + 1:]
+
+
+def chosen_pair(pairs, latest):
+    """Of the pairs with the fewest open thirds the last one, or else the first one, in their order."""
+    fewest = min(pairs.values())
+    near = [pair for pair, many in pairs.items() if many == fewest]
+    near = sorted(near, key=lambda pair: (pair[0][1], pair[0][0], pair[1][1], pair[1][0]))
+    return near[-1] if latest else near[0]
+
+
+class Search:
+    """A walk through the cases for asks and a number most.
+
+    At each place rows are the rising keys of each moment; pairs is a dict from each bare pair to how many open thirds
+    it has, for where these are few the tree of cases stays small; barred is a dict of the barred points.
+    """
+
+    def __init__(self, asks, most, latest):
+        self.columns = sorted(set(asks))
+        self.most = most
+        self.latest = latest
+        self.met = 0
+
+    def pairs_with(self, rows, barred, point):
+        """From each bare pair with the point to how many open thirds it has."""
+        return {pair: len(open_thirds(self.columns, barred, pair[0], pair[1])) for pair in bare_with(rows, point)}
+
+    def pairs_behind(self, rows, pairs, barred, third):
+        """The pairs of the rows, to which the third was put."""
+        left = {pair: many for pair, many in pairs.items() if not in_box(third, pair[0], pair[1])}
+        left.update(self.pairs_with(rows, barred, third))
+        return left
+
+    def walk(self, rows, pairs, barred):
+        """A tuple of `served` and filled rows, or of `none` and a case; None where too many cases are met."""
+        self.met += 1
+        if self.met > MOST_CASES:
+            return None
+        if size_of(rows) > self.most:
+            return ("none", ("over",))
+        if len(pairs) == 0:
+            return ("served", rows)
+        one, other = chosen_pair(pairs, self.latest)
+        barred = dict(barred)
+        cases = []
+        for third in open_thirds(self.columns, barred, one, other):
+            whole = with_point(rows, third)
+            told = self.walk(whole, self.pairs_behind(whole, pairs, barred, third), barred)
+            if told is None or told[0] == "served":
+                return told
+            cases.append(told[1])
+            barred[third] = True
+            pairs = {pair: many - 1 if in_box(third, pair[0], pair[1]) else many for pair, many in pairs.items()}
+        return ("none", ("pair", one, other, cases))
+
+
+def searched(asks, most, latest):
+    """What the search tells from the asks' own points on."""
+    search = Search(asks, most, latest)
+    rows = [[key] for key in asks]
+    pairs = {}
+    for moment, key in enumerate(asks):
+        pairs.update(search.pairs_with(rows, {}, (key, moment)))
+    return search.walk(rows, pairs, {})
+
+
+def served_by(asks, most):
+    """A tuple of `served` and Points of at most most that serve, or of `none` and a case."""
+    look_at_asks(asks)
+    rows = grown_rows(asks)
+    if size_of(rows) <= most:
+        return ("served", points_in(rows))
+    # Of some asks the one way meets too many cases and the other doesn't.
+    for latest in (True, False):
+        told = searched(asks, most, latest)
+        if told is not None:
+            word, found = told
+            return ("served", points_in(found)) if word == "served" else told
+    raise TooMany(MOST_CASES)
+
+
+def least(asks):
+    """A tuple of the least number of points that serve, such Points, and a case for one fewer."""
+    look_at_asks(asks)
+    if len(asks) > SHORT_ASKS or len(set(asks)) > SHORT_KEYS:
+        raise TooMany(len(asks))
+    points = points_in(grown_rows(asks))
+    while True:
+        # Asks as short as these meet at most 321 cases.
+        word, found = served_by(asks, len(points) - 1)
+        if word == "none":
+            return (len(points), points, found)
+        points = found
