@@ -213,6 +213,12 @@ class ServedBy(Checked):
         self.assertLessEqual(greatest, 400)
         self.assertGreater(greatest, 250)
 
+    def test_two_ways_of_searching(self):
+        # Of each of these one choice of pairs alone comes to an end.
+        for asks, most, word in (([2, 4, 0, 3, 1, 0, 1, 0], 14, "none"), ([4, 1, 4, 1, 1, 2, 3], 12, "served"),
+                                 ([0, 3, 2, 2, 1, 4], 12, "served"), ([5, 0, 2, 1, 3, 3, 3, 4], 16, "served")):
+            self.assertEqual(self.checked(asks, most), word)
+
     def test_the_bound_itself(self):
         # Here no choice of pairs makes the tree any smaller.
         asks = [0, 0, 0, 1, 1, 1, 0]

@@ -65,10 +65,10 @@ class NeedOf(unittest.TestCase):
 
     def test_each_corner(self):
         # The point is at each of the four corners of the box that needs it.
-        for asks, points, point in (([0, 4], [(0, 0), (4, 0), (4, 1)], (4, 0)), ([0, 4], [(0, 0), (0, 1), (4, 1)], (0, 1)),
-                                    ([4, 0], [(4, 0), (0, 0), (0, 1)], (0, 0)), ([4, 0], [(4, 0), (4, 1), (0, 1)], (4, 1))):
+        for asks, point in (([0, 4], (4, 0)), ([0, 4], (0, 1)), ([4, 0], (0, 0)), ([4, 0], (4, 1))):
             one, other = (asks[0], 0), (asks[1], 1)
-            self.assertIn(need_of(asks, Points(points), point), (("needed", one, other), ("needed", other, one)))
+            told = need_of(asks, Points([one, other, point]), point)
+            self.assertIn(told, (("needed", one, other), ("needed", other, one)))
 
     def test_of_every_point(self):
         seen = {None: 0, "ask": 0, "needed": 0}
@@ -90,7 +90,8 @@ class NeedOf(unittest.TestCase):
                     self.assertNotEqual(asks[point[1]], point[0])
                     self.assertTrue(one in points and other in points)
                     self.assertTrue(one[0] != other[0] and one[1] != other[1])
-                    self.assertCountEqual([near for near in points if in_the_box(near, one, other)], [one, other, point])
+                    inside = [near for near in points if in_the_box(near, one, other)]
+                    self.assertCountEqual(inside, [one, other, point])
         self.assertGreater(min(seen.values()), 100)
 
 
