@@ -219,6 +219,15 @@ class ServedBy(Checked):
                                  ([0, 3, 2, 2, 1, 4], 12, "served"), ([5, 0, 2, 1, 3, 3, 3, 4], 16, "served")):
             self.assertEqual(self.checked(asks, most), word)
 
+    def test_sets_that_are_there_are_found_where_cases_would_be_too_many(self):
+        # Here either way of searching for cases meets more than 400 tuples, and yet so few points can serve.
+        for asks, most in (([0, 2, 3, 4, 5, 1], 13), ([0, 1, 4, 2, 0, 3], 12), ([0, 3, 2, 1, 3, 3, 0], 14),
+                           ([0, 0, 2, 1, 3, 0, 4], 13), ([0, 3, 2, 1, 3, 1, 0, 2], 16),
+                           ([0, 0, 1, 0, 4, 2, 3, 3, 2, 4], 18), ([0, 1, 7, 2, 3, 4, 5, 6], 18)):
+            self.assertLess(most, len(Grower(asks).points()))
+            self.assertEqual(self.checked(asks, most), "served")
+            self.assertEqual(self.checked([key + 20 for key in asks], most), "served")
+
     def test_the_bound_itself(self):
         # Here no choice of pairs makes the tree any smaller.
         asks = [0, 0, 0, 1, 1, 1, 0]
