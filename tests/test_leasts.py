@@ -108,6 +108,7 @@ class Least(Checked):
     def test_all_that_are_as_long_as_may_be(self):
         for asks in short_asks(6, 4):
             many = self.least_of(asks)
+            self.assertEqual(self.least_of([30 - key for key in asks]), many)
             self.assertLessEqual(floor_of(asks, fences_of(asks)), many)
             self.assertLessEqual(many, len(Grower(asks).points()))
 
@@ -153,10 +154,12 @@ class ServedBy(Checked):
                         self.assertEqual(self.checked(asks, most), "none" if most < fewest else "served")
 
     def test_the_longest_of_short_asks(self):
-        for asks in list(short_asks(6, 4))[::4] + list(short_asks(6, 3))[::4]:
+        for asks in list(short_asks(6, 4))[::8] + list(short_asks(6, 3))[::8]:
             fewest = least(asks)[0]
             for most in list(range(5, 15)) + [0, 60]:
-                self.assertEqual(self.checked(asks, most), "none" if most < fewest else "served")
+                wanted = "none" if most < fewest else "served"
+                self.assertEqual(self.checked(asks, most), wanted)
+                self.assertEqual(self.checked([30 - key for key in asks], most), wanted)
 
     def test_longer_asks_and_more_keys(self):
         words = []

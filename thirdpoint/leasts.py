@@ -160,7 +160,7 @@ def least(asks):
         raise TooMany(len(asks))
     points = points_in(grown_rows(asks))
     while True:
-        # Asks as short as these meet at most 321 cases.
+        # Asks as short as these meet at most 329 cases, so that this is never refused.
         word, found = served_by(asks, len(points) - 1)
         if word == "none":
             return (len(points), points, found)
