@@ -94,6 +94,18 @@ class Search:
         left.update(self.pairs_with(rows, barred, third))
         return left
 
+    def outlook(self, rows, pairs, barred, third):
+        """How far from filled the rows are with the third, as a tuple: the less, the better."""
+        behind = self.pairs_behind(with_point(rows, third), pairs, barred, third)
+        return (still_needed(behind), len(behind))
+
+    def thirds_to_try(self, rows, pairs, barred, pair):
+        """The open thirds of the pair, sorted; or, hunting, those first that leave the least to do."""
+        found = open_thirds(self.columns, barred, pair[0], pair[1])
+        if not self.hunting:
+            return found
+        return sorted(found, key=lambda third: self.outlook(rows, pairs, barred, third))
+
     def walk(self, rows, pairs, barred):
         """A tuple of `served` and filled rows, or of `none` and a case; None where too many places are met."""
         if self.left == 0:
@@ -106,7 +118,7 @@ class Search:
         one, other = chosen_pair(pairs, self.latest)
         barred = dict(barred)
         cases = []
-        for third in open_thirds(self.columns, barred, one, other):
+        for third in self.thirds_to_try(rows, pairs, barred, (one, other)):
             whole = with_point(rows, third)
             told = self.walk(whole, self.pairs_behind(whole, pairs, barred, third), barred)
             if told is None or told[0] == "served":
